@@ -1,0 +1,152 @@
+// Package levels: a store of keys and values on a disk: see DOC.md.
+package levels
+
+import (
+	"sync"
+
+	"levels/api"
+	"levels/rows"
+	"levels/tables"
+)
+
+// Store has keys and values.
+type Store struct {
+	lock    sync.Mutex // held in every call: the disk, too, is for one at a time
+	disk    *api.Disk
+	options api.Options
+	closed  bool
+	failed  error // what the disk answered to a call that changes something: from then on it is every call's answer
+
+	memory  rows.List // what is in no table yet
+	changes int       // how many changes made it: one key's count each
+	batches uint64    // how many batches were done, in all stores on the disk
+	levels  tables.Levels
+	next    uint64 // the number that no file has had yet
+
+	log        uint64 // the log's number
+	logged     bool   // there is such a file
+	torn       bool   // it ends within a record
+	looseBytes bool   // some of its bytes may not be safe
+	looseNames bool   // some name may not be safe
+}
+
+// Open opens a store (P3).
+func Open(d *api.Disk, o api.Options) (*Store, error) {
+	if o.Memory < 1 || o.Memory > api.MaxMemory || o.Tables < 2 || o.Tables > api.MaxTables {
+		return nil, api.ErrOptions
+	}
+	s := &Store{disk: d, options: o}
+	// What is there is read whole ahead of the first change, so that nothing is taken away from a disk that is not what it was.
+	for _, step := range []func() error{s.load, s.replay, s.clean, s.shrink} {
+		if err := step(); err != nil {
+			return nil, err
+		}
+	}
+	return s, nil
+}
+
+// Write does changes, all at once (P4).
+func (s *Store) Write(l []api.Change, sync bool) error {
+	s.lock.Lock()
+	defer s.lock.Unlock()
+	if err := s.refusal(); err != nil {
+		return err
+	}
+	if err := check(l); err != nil {
+		return err
+	}
+	s.failed = s.do(l, sync)
+	return s.failed
+}
+
+// Get tells a key's value (P5).
+func (s *Store) Get(key string) (string, bool, error) {
+	s.lock.Lock()
+	defer s.lock.Unlock()
+	if err := s.refusal(); err != nil {
+		return "", false, err
+	}
+	return s.find(key)
+}
+
+// Scan tells pairs, by their keys (P5).
+func (s *Store) Scan(lo, hi string, limit int) ([]api.Pair, error) {
+	s.lock.Lock()
+	defer s.lock.Unlock()
+	if err := s.refusal(); err != nil {
+		return nil, err
+	}
+	l, err := s.pairs(lo, hi, limit)
+	if err != nil {
+		return nil, err
+	}
+	return l, nil
+}
+
+// All goes through pairs (P5).
+func (s *Store) All(lo, hi string) func(yield func(key, value string) bool) {
+	// The pairs are taken now: the tables that have them may be gone when they are gone through.
+	l := s.taken(lo, hi)
+	return func(yield func(key, value string) bool) {
+		for _, p := range l {
+			if s.isClosed() || !yield(p.Key, p.Value) {
+				return
+			}
+		}
+	}
+}
+
+// Snapshot keeps what there is (P6).
+func (s *Store) Snapshot() (int, error) { return 0, s.answer() }
+
+// GetAt is Get in a snapshot (P6).
+func (s *Store) GetAt(n int, key string) (string, bool, error) { return "", false, s.answer() }
+
+// ScanAt is Scan in a snapshot (P6).
+func (s *Store) ScanAt(n int, lo, hi string, limit int) ([]api.Pair, error) { return nil, s.answer() }
+
+// Release lets a snapshot go (P6).
+func (s *Store) Release(n int) error { return s.answer() }
+
+// Shape tells the tables, level by level (P9).
+func (s *Store) Shape() ([][]api.Table, error) { return nil, s.answer() }
+
+// Compact brings the tables into their least form (P10).
+func (s *Store) Compact() error { return s.answer() }
+
+// Close ends it (P7).
+func (s *Store) Close() error {
+	s.lock.Lock()
+	defer s.lock.Unlock()
+	if s.closed {
+		return api.ErrClosed
+	}
+	s.closed = true
+	s.memory, s.levels = nil, tables.Levels{}
+	if s.failed != nil {
+		return s.failed
+	}
+	return s.makeSafe()
+}
+
+// refusal is why a call is not done: the store is closed, or failed.
+func (s *Store) refusal() error {
+	if s.closed {
+		return api.ErrClosed
+	}
+	return s.failed
+}
+
+// answer is what a call answers that is not built yet: the refusal, if there is one.
+func (s *Store) answer() error {
+	s.lock.Lock()
+	defer s.lock.Unlock()
+	return s.refusal()
+}
+
+// isClosed tells whether the store is closed.
+func (s *Store) isClosed() bool {
+	s.lock.Lock()
+	defer s.lock.Unlock()
+	return s.closed
+}

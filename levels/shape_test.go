@@ -1,0 +1,152 @@
+package levels
+
+import (
+	"fmt"
+	"math/rand"
+	"slices"
+	"testing"
+
+	"levels/api"
+	"levels/files"
+)
+
+// tidy tells what is wrong with the shape of the tables and the files on the disk.
+func tidy(s *Store) error {
+	used := []string{}
+	for i, l := range s.levels {
+		most := []int{s.options.Tables - 1, s.options.Tables, s.options.Tables, 1 << 30}[i]
+		if len(l) > most {
+			return fmt.Errorf("level %d has %d tables", i, len(l))
+		}
+		for j, t := range l {
+			if t.Count() < 1 || t.Count() > api.MaxCount {
+				return fmt.Errorf("%s has %d entries", t.Name(), t.Count())
+			}
+			if i > 0 && j > 0 && l[j-1].Last() >= t.First() {
+				return fmt.Errorf("level %d: %s begins with %q, behind %q", i, t.Name(), t.First(), l[j-1].Last())
+			}
+			used = append(used, t.Name())
+		}
+	}
+	if s.changes >= s.options.Memory {
+		return fmt.Errorf("%d changes are in memory", s.changes)
+	}
+	if s.logged {
+		used = append(used, files.Log(s.log))
+	}
+	got := slices.DeleteFunc(s.disk.List(), func(name string) bool { return name == files.State })
+	slices.Sort(used)
+	if !slices.Equal(got, used) {
+		return fmt.Errorf("files: %q, want %q", got, used)
+	}
+	return nil
+}
+
+// TestShape: the levels stay within their bounds, behind each Write and each Open; a Get reads little.
+func TestShape(t *testing.T) {
+	var most [api.MaxLevels]int
+	for seed := range int64(12) {
+		r := rand.New(rand.NewSource(seed))
+		d := api.NewDisk(1 << 30)
+		keys := []int{5, 300, 3000}[seed%3]
+		for range 6 {
+			s, err := Open(d, api.Options{Memory: 1 + r.Intn(api.MaxMemory), Tables: 2 + r.Intn(api.MaxTables-1)})
+			if err != nil {
+				t.Fatal(err)
+			}
+			for range 300 {
+				if err := tidy(s); err != nil {
+					t.Fatal(err)
+				}
+				for i, l := range s.levels {
+					most[i] = max(most[i], len(l))
+				}
+				var l []api.Change
+				for range 1 + r.Intn(api.MaxChanges) {
+					l = append(l, api.Change{Key: fmt.Sprint(r.Intn(keys)), Delete: r.Intn(5) == 0})
+				}
+				if err := s.Write(l, false); err != nil {
+					t.Fatal(err)
+				}
+				d.Counts()
+				s.Get(fmt.Sprint(r.Intn(keys)))
+				if reads, bytes := d.Counts(); reads > len(s.levels[0])+api.MaxLevels-1 || bytes > api.MaxBlock {
+					t.Fatalf("Get: %d reads of up to %d bytes", reads, bytes)
+				}
+			}
+		}
+	}
+	if want := [api.MaxLevels]int{5, 6, 6, 10}; most[0] != want[0] || most[1] != want[1] || most[2] != want[2] || most[3] < want[3] {
+		t.Errorf("the levels had at most %d tables, want %d: too few to tell", most, want)
+	}
+}
+
+// TestForgotten: of keys that are all deleted nothing is left in the last merge.
+func TestForgotten(t *testing.T) {
+	s, err := Open(api.NewDisk(1<<30), api.Options{Memory: 1, Tables: 2})
+	if err != nil {
+		t.Fatal(err)
+	}
+	for _, c := range []api.Change{{Key: "a"}, {Key: "a", Delete: true}} {
+		if err := s.Write([]api.Change{c}, false); err != nil {
+			t.Fatal(err)
+		}
+	}
+	if !s.levels.Empty(0) {
+		t.Errorf("tables are left: %v", s.levels)
+	}
+}
+
+// TestTornOnce: behind a torn record nothing is written, but the log behind that is used again.
+func TestTornOnce(t *testing.T) {
+	d := api.NewDisk(1 << 30)
+	o := api.Options{Memory: 9, Tables: 2}
+	put := func(s *Store, key string) {
+		if err := s.Write([]api.Change{{Key: key}}, false); err != nil {
+			t.Fatal(err)
+		}
+	}
+	s, _ := Open(d, o)
+	put(s, "a")
+	if err := s.Close(); err != nil {
+		t.Fatal(err)
+	}
+	s, _ = Open(d, o)
+	put(s, "b")
+	d.Crash(0, 5)
+	s, err := Open(d, o)
+	if err != nil || !s.torn || s.changes != 1 {
+		t.Fatalf("%v: torn %v, %d changes", err, s.torn, s.changes)
+	}
+	put(s, "c")
+	put(s, "d")
+	if s.torn || s.changes != 1 || len(s.levels[0]) != 1 {
+		t.Errorf("torn %v, %d changes, %d tables", s.torn, s.changes, len(s.levels[0]))
+	}
+	if l, err := s.Scan("", "", 0); len(l) != 3 || err != nil {
+		t.Errorf("the store has %v, %v", l, err)
+	}
+}
+
+// TestInOrder: keys that come in order fill their tables, and old tables stay as they are.
+func TestInOrder(t *testing.T) {
+	s, err := Open(api.NewDisk(1<<30), api.Options{Memory: 3, Tables: 2})
+	if err != nil {
+		t.Fatal(err)
+	}
+	const n = 4000
+	stayed := 0
+	for i := range n {
+		was := s.levels[lastLevel]
+		if err := s.Write([]api.Change{{Key: fmt.Sprintf("%08d", i)}}, false); err != nil {
+			t.Fatal(err)
+		}
+		if now := s.levels[lastLevel]; len(was) > 0 && len(now) > len(was) && slices.Equal(was, now[:len(was)]) {
+			stayed++
+		}
+	}
+	last := s.levels[lastLevel]
+	if len(last) > n/50 || stayed == 0 {
+		t.Errorf("%d tables with %d entries; %d times the old ones stayed", len(last), last.Count(), stayed)
+	}
+}

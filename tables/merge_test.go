@@ -1,0 +1,107 @@
+package tables
+
+import (
+	"errors"
+	"slices"
+	"testing"
+
+	"levels/api"
+	"levels/rows"
+)
+
+// of is a table of these keys, set or deleted by a batch.
+func of(batch uint64, deleted bool, keys ...string) *Table {
+	var l rows.List
+	for _, k := range keys {
+		l = append(l, rows.Entry{Key: k, Deleted: deleted, Batch: batch})
+	}
+	return New(l)
+}
+
+// keys is the keys of a level, with a minus ahead of those that are deleted.
+func keys(t *testing.T, l Level) string {
+	t.Helper()
+	list, err := rows.Collect(l.From(""))
+	if err != nil {
+		t.Fatal(err)
+	}
+	s := ""
+	for _, e := range list {
+		if e.Deleted {
+			s += "-"
+		}
+		s += e.Key
+	}
+	return s
+}
+
+// TestDownFirst: level 0 goes whole, and the newest entry of each key holds.
+func TestDownFirst(t *testing.T) {
+	for _, c := range []struct {
+		deep Level
+		want string
+	}{{nil, "acdxz"}, {Level{of(1, false, "m")}, "a-bcdxz"}} {
+		l := Levels{
+			0: {of(3, false, "b", "c"), of(4, true, "b", "d"), of(5, false, "d")},
+			1: {of(2, false, "a", "b"), of(2, false, "x", "z")},
+			3: c.deep,
+		}
+		was := l
+		n, err := l.Down(0)
+		if err != nil || len(n[0]) != 0 || len(n[1]) != 1 || keys(t, n[1]) != c.want || len(n[3]) != len(c.deep) {
+			t.Errorf("level 1 has %q, %v, want %q", keys(t, n[1]), err, c.want)
+		}
+		if len(l[0]) != 3 || !slices.Equal(l[1], was[1]) {
+			t.Error("the levels of before are changed")
+		}
+	}
+}
+
+// TestDownOne: of another level the table goes that has the least to do with the next one; what it does not touch stays.
+func TestDownOne(t *testing.T) {
+	l := Levels{
+		1: {of(5, false, "b", "f"), of(5, true, "j", "k"), of(5, false, "t", "x")},
+		2: {of(4, false, "a"), of(4, false, "c", "d"), of(4, false, "e", "g"), of(4, false, "i", "j"), of(4, false, "s", "u", "v", "y")},
+	}
+	one, _ := l.Down(1)
+	if keys(t, one[1]) != "bftx" || keys(t, one[2]) != "acdegisuvy" {
+		t.Errorf("behind the first merge: %q, %q", keys(t, one[1]), keys(t, one[2]))
+	}
+	if !slices.Equal(one[2][:3], l[2][:3]) || !slices.Equal(one[2][4:], l[2][4:]) || one[1][1] != l[1][2] {
+		t.Error("tables that have nothing to do with it are others")
+	}
+	two, _ := one.Down(1)
+	if keys(t, two[1]) != "tx" && keys(t, two[1]) != "bf" {
+		t.Errorf("behind the second merge: %q, %q", keys(t, two[1]), keys(t, two[2]))
+	}
+	three, _ := two.Down(1)
+	if len(three[1]) != 0 || keys(t, three[2]) != "abcdefgistuvxy" || !three[2].apart() {
+		t.Errorf("behind the third merge: %q, %q", keys(t, three[1]), keys(t, three[2]))
+	}
+}
+
+// TestDownToNothing: when all is deleted, no table is left.
+func TestDownToNothing(t *testing.T) {
+	l := Levels{2: {of(5, true, "a", "b")}, 3: {of(4, false, "a", "b")}}
+	if n, err := l.Down(2); err != nil || !n.Empty(0) {
+		t.Errorf("tables are left: %v, %v", n, err)
+	}
+}
+
+// TestDownMany: a merge makes as many tables as it needs.
+func TestDownMany(t *testing.T) {
+	l := Levels{0: {New(some(0, 60)), New(some(30, 90))}, 1: {New(some(100, 100)), New(some(300, 100))}}
+	n, err := l.Down(0)
+	if err != nil || len(n[1]) != 3 || !n[1].apart() || keys(t, n[1]) == "" {
+		t.Errorf("%d tables, %v", len(n[1]), err)
+	}
+}
+
+func TestDownFails(t *testing.T) {
+	d := api.NewDisk(1 << 20)
+	l := Levels{0: {made(t, d, 2, some(0, 30))}}
+	d.Fail(1, 1)
+	if n, err := l.Down(0); !errors.Is(err, api.ErrDisk) || !n.Empty(0) {
+		t.Errorf("%v, %v", n, err)
+	}
+}
