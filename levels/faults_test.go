@@ -12,11 +12,12 @@ import (
 	"levels/levels"
 )
 
-// past is what was done to a disk: the contents behind each batch, how many of them are safe, and whether the last one's Write answered an error.
+// past is what was done to a disk: the contents behind each batch, how many of them are safe, and whether the last one's Write answered an error; and whether snapshots are held meanwhile.
 type past struct {
 	all   []contents
 	safe  int
 	maybe bool
+	snaps bool
 }
 
 // done is how many batches' Writes answered nil.
@@ -29,7 +30,11 @@ func (p *past) done() int {
 
 // write writes batches till one is refused by the disk, and answers that error.
 func (p *past) write(r *rand.Rand, s *levels.Store, n int) error {
-	for range n {
+	for i := range n {
+		if p.snaps && i%3 == 0 {
+			s.Snapshot()
+			s.Release(1 + r.Intn(20))
+		}
 		l, sync := anyBatch(r, 60), r.Intn(4) == 0
 		err := s.Write(l, sync)
 		p.all = append(p.all, p.all[len(p.all)-1].with(l))
@@ -106,7 +111,7 @@ func TestCrash(t *testing.T) {
 	for seed := range int64(400) {
 		r := rand.New(rand.NewSource(seed))
 		d := api.NewDisk(roomy)
-		p := &past{all: []contents{{}}}
+		p := &past{all: []contents{{}}, snaps: seed%2 == 1}
 		for range 6 {
 			d.Fail(r.Intn(120), math.MaxInt)
 			s, err := levels.Open(d, anyOptions(r))
@@ -131,7 +136,7 @@ func TestEveryCrash(t *testing.T) {
 			for _, tail := range []uint{0, 1, 13, 30} {
 				r := rand.New(rand.NewSource(7))
 				d := api.NewDisk(roomy)
-				p := &past{all: []contents{{}}}
+				p := &past{all: []contents{{}}, snaps: after%2 == int(dir%2)}
 				s := open(t, d, api.Options{Memory: 6, Tables: 2})
 				d.Fail(after, math.MaxInt)
 				p.write(r, s, 40)
@@ -148,7 +153,7 @@ func TestFails(t *testing.T) {
 		for _, times := range []int{1, 2, math.MaxInt} {
 			r := rand.New(rand.NewSource(int64(after)))
 			d := api.NewDisk(roomy)
-			p := &past{all: []contents{{}}}
+			p := &past{all: []contents{{}}, snaps: r.Intn(2) == 0}
 			s := open(t, d, anyOptions(r))
 			d.Fail(after, times)
 			if err := p.write(r, s, 60); err == nil {
@@ -173,7 +178,7 @@ func TestRoom(t *testing.T) {
 	for room := 0; room < 2500; room += 3 {
 		r := rand.New(rand.NewSource(int64(room % 7)))
 		d := api.NewDisk(room)
-		p := &past{all: []contents{{}}}
+		p := &past{all: []contents{{}}, snaps: room%2 == 0}
 		o := anyOptions(r)
 		s := open(t, d, o)
 		if err := p.write(r, s, 1000); !errors.Is(err, api.ErrRoom) {
@@ -209,7 +214,7 @@ func TestOpenFails(t *testing.T) {
 	for seed := range int64(20) {
 		r := rand.New(rand.NewSource(seed))
 		d := api.NewDisk(roomy)
-		p := &past{all: []contents{{}}}
+		p := &past{all: []contents{{}}, snaps: seed%2 == 1}
 		s := open(t, d, api.Options{Memory: 32, Tables: 6})
 		d.Fail(r.Intn(200), math.MaxInt)
 		p.write(r, s, 60)
@@ -256,10 +261,10 @@ func TestReadFails(t *testing.T) {
 
 // TestFlipped: one bit of one file is turned: it is noticed, or does no harm.
 func TestFlipped(t *testing.T) {
-	for _, crash := range []bool{false, true} {
+	for i, crash := range []bool{false, true, false} {
 		r := rand.New(rand.NewSource(3))
 		d := api.NewDisk(roomy)
-		p := &past{all: []contents{{}}}
+		p := &past{all: []contents{{}}, snaps: i == 2}
 		s := open(t, d, api.Options{Memory: 12, Tables: 2})
 		p.write(r, s, 22)
 		if crash {
@@ -338,7 +343,7 @@ func TestAnyBytes(t *testing.T) {
 	for range 3000 {
 		d := api.NewDisk(r.Intn(5000))
 		s := open(t, d, anyOptions(r))
-		(&past{all: []contents{{}}}).write(r, s, r.Intn(60))
+		(&past{all: []contents{{}}, snaps: r.Intn(2) == 0}).write(r, s, r.Intn(60))
 		spoil(r, d)
 		s, err := levels.Open(d, anyOptions(r))
 		if (s == nil) != (err != nil) {

@@ -23,6 +23,9 @@ type Store struct {
 	levels  tables.Levels
 	next    uint64 // the number that no file has had yet
 
+	given int            // how many snapshots there were
+	snaps map[int]uint64 // of each that is not released: how many batches were done then
+
 	log        uint64 // the log's number
 	logged     bool   // there is such a file
 	torn       bool   // it ends within a record
@@ -35,7 +38,7 @@ func Open(d *api.Disk, o api.Options) (*Store, error) {
 	if o.Memory < 1 || o.Memory > api.MaxMemory || o.Tables < 2 || o.Tables > api.MaxTables {
 		return nil, api.ErrOptions
 	}
-	s := &Store{disk: d, options: o}
+	s := &Store{disk: d, options: o, snaps: map[int]uint64{}}
 	// What is there is read whole ahead of the first change, so that nothing is taken away from a disk that is not what it was.
 	for _, step := range []func() error{s.load, s.replay, s.clean, s.shrink} {
 		if err := step(); err != nil {
@@ -66,7 +69,7 @@ func (s *Store) Get(key string) (string, bool, error) {
 	if err := s.refusal(); err != nil {
 		return "", false, err
 	}
-	return s.find(key)
+	return s.find(key, s.batches)
 }
 
 // Scan tells pairs, by their keys (P5).
@@ -76,11 +79,7 @@ func (s *Store) Scan(lo, hi string, limit int) ([]api.Pair, error) {
 	if err := s.refusal(); err != nil {
 		return nil, err
 	}
-	l, err := s.pairs(lo, hi, limit)
-	if err != nil {
-		return nil, err
-	}
-	return l, nil
+	return s.scan(lo, hi, limit, s.batches)
 }
 
 // All goes through pairs (P5).
@@ -97,16 +96,54 @@ func (s *Store) All(lo, hi string) func(yield func(key, value string) bool) {
 }
 
 // Snapshot keeps what there is (P6).
-func (s *Store) Snapshot() (int, error) { return 0, s.answer() }
+func (s *Store) Snapshot() (int, error) {
+	s.lock.Lock()
+	defer s.lock.Unlock()
+	if err := s.refusal(); err != nil {
+		return 0, err
+	}
+	if len(s.snaps) >= api.MaxSnaps {
+		return 0, api.ErrMany
+	}
+	s.given++
+	s.snaps[s.given] = s.batches
+	return s.given, nil
+}
 
 // GetAt is Get in a snapshot (P6).
-func (s *Store) GetAt(n int, key string) (string, bool, error) { return "", false, s.answer() }
+func (s *Store) GetAt(n int, key string) (string, bool, error) {
+	s.lock.Lock()
+	defer s.lock.Unlock()
+	batches, err := s.moment(n)
+	if err != nil {
+		return "", false, err
+	}
+	return s.find(key, batches)
+}
 
 // ScanAt is Scan in a snapshot (P6).
-func (s *Store) ScanAt(n int, lo, hi string, limit int) ([]api.Pair, error) { return nil, s.answer() }
+func (s *Store) ScanAt(n int, lo, hi string, limit int) ([]api.Pair, error) {
+	s.lock.Lock()
+	defer s.lock.Unlock()
+	batches, err := s.moment(n)
+	if err != nil {
+		return nil, err
+	}
+	return s.scan(lo, hi, limit, batches)
+}
 
 // Release lets a snapshot go (P6).
-func (s *Store) Release(n int) error { return s.answer() }
+func (s *Store) Release(n int) error {
+	s.lock.Lock()
+	defer s.lock.Unlock()
+	if _, err := s.moment(n); err != nil {
+		return err
+	}
+	delete(s.snaps, n)
+	// What was kept for it alone goes: from memory now, from the tables when they are merged.
+	s.memory = s.memory.Needed(s.moments())
+	return nil
+}
 
 // Shape tells the tables, level by level (P9).
 func (s *Store) Shape() ([][]api.Table, error) { return nil, s.answer() }
@@ -122,7 +159,7 @@ func (s *Store) Close() error {
 		return api.ErrClosed
 	}
 	s.closed = true
-	s.memory, s.levels = nil, tables.Levels{}
+	s.memory, s.levels, s.snaps = nil, tables.Levels{}, nil
 	if s.failed != nil {
 		return s.failed
 	}

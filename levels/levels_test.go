@@ -14,7 +14,7 @@ import (
 	"levels/plain"
 )
 
-// TestExamples: the document's examples, as far as they are built.
+// TestExamples: the document's examples.
 func TestExamples(t *testing.T) {
 	s := open(t, api.NewDisk(roomy), usual)
 	get := func(key, value string, set bool) {
@@ -39,6 +39,17 @@ func TestExamples(t *testing.T) {
 			t.Errorf("Write(%q): %v, want %v", x, err, want)
 		}
 	}
+	take(t, s, 1)
+	write(t, s, "b=7")
+	if v, ok, err := s.GetAt(1, "b"); v != "3" || !ok || err != nil {
+		t.Errorf("GetAt: %q, %v, %v", v, ok, err)
+	}
+	get("b", "7", true)
+	noSnap(t, s, 2)
+	if err := s.Release(1); err != nil {
+		t.Error(err)
+	}
+	noSnap(t, s, 1)
 	if err := s.Close(); err != nil {
 		t.Error(err)
 	}
@@ -275,11 +286,18 @@ func TestCloseWithin(t *testing.T) {
 func TestZero(t *testing.T) {
 	s := open(t, api.NewDisk(roomy), usual)
 	write(t, s, "a=1,b=2")
+	take(t, s, 1)
 	s.Close()
 	v, ok, err := s.Get("a")
 	l, scanErr := s.Scan("", "", 0)
 	if v != "" || ok || err == nil || l != nil || scanErr == nil {
 		t.Errorf("on a closed store: %q, %v, %v; %v, %v", v, ok, err, l, scanErr)
+	}
+	v, ok, err = s.GetAt(1, "a")
+	l, scanErr = s.ScanAt(1, "", "", 0)
+	n, snapErr := s.Snapshot()
+	if v != "" || ok || err == nil || l != nil || scanErr == nil || n != 0 || snapErr == nil {
+		t.Errorf("on a closed store, at a snapshot: %q, %v, %v; %v, %v; %d, %v", v, ok, err, l, scanErr, n, snapErr)
 	}
 }
 
@@ -341,7 +359,7 @@ func TestModel(t *testing.T) {
 				t.Fatal(err)
 			}
 			c = c.with(l)
-			agree(t, r, s, c, keys)
+			reader{s.Get, s.Scan}.agree(t, r, c, keys)
 			if r.Intn(40) == 0 {
 				// A store that is not closed has left what it did as well, if no crash comes.
 				if r.Intn(2) == 0 {
@@ -358,16 +376,25 @@ func TestModel(t *testing.T) {
 	}
 }
 
-// agree tests some answers of a store.
-func agree(t *testing.T, r *rand.Rand, s *levels.Store, c contents, keys int) {
+// reader is what answers from some contents: a store, or a snapshot of it.
+type reader struct {
+	get  func(key string) (string, bool, error)
+	scan func(lo, hi string, limit int) ([]api.Pair, error)
+}
+
+// agree tests some answers.
+func (x reader) agree(t *testing.T, r *rand.Rand, c contents, keys int) {
 	t.Helper()
 	key := anyKey(r, keys)
 	want, set := c[key]
-	if v, ok, err := s.Get(key); v != want || ok != set || err != nil {
+	if v, ok, err := x.get(key); v != want || ok != set || err != nil {
 		t.Fatalf("Get(%q): %q, %v, %v, want %q, %v", key, v, ok, err, want, set)
 	}
 	lo, hi, limit := anyKey(r, keys), anyKey(r, keys), r.Intn(9)
-	if l, err := s.Scan(lo, hi, limit); !slices.Equal(l, c.scan(lo, hi, limit)) || err != nil {
+	if r.Intn(4) == 0 {
+		lo, hi, limit = "", "", 0
+	}
+	if l, err := x.scan(lo, hi, limit); !slices.Equal(l, c.scan(lo, hi, limit)) || err != nil {
 		t.Fatalf("Scan(%q, %q, %d): %v, %v", lo, hi, limit, l, err)
 	}
 }

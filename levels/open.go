@@ -41,7 +41,7 @@ func (s *Store) replay() error {
 		return files.Corrupt(name)
 	}
 	for _, batch := range l.Batches {
-		s.memory = s.memory.With(batch)
+		s.memory = s.with(batch)
 		s.changes += len(batch)
 		s.batches++
 	}

@@ -30,7 +30,7 @@ func (s *Store) settle(memory rows.List, batches uint64) error {
 	for i := range levels {
 		for s.full(i, levels[i]) {
 			var err error
-			if levels, err = levels.Down(i); err != nil {
+			if levels, err = levels.Down(i, s.moments()); err != nil {
 				return err
 			}
 		}

@@ -31,6 +31,9 @@ func tidy(s *Store) error {
 	if s.changes >= s.options.Memory {
 		return fmt.Errorf("%d changes are in memory", s.changes)
 	}
+	if len(s.memory) != len(s.memory.Needed(s.moments())) {
+		return fmt.Errorf("memory has %v, with snapshots at %v", s.memory, s.moments())
+	}
 	if s.logged {
 		used = append(used, files.Log(s.log))
 	}
@@ -42,7 +45,7 @@ func tidy(s *Store) error {
 	return nil
 }
 
-// TestShape: the levels stay within their bounds, behind each Write and each Open; a Get reads little.
+// TestShape: the levels stay within their bounds, behind each Write and each Open, with snapshots too; a Get and a GetAt read little.
 func TestShape(t *testing.T) {
 	var most [api.MaxLevels]int
 	for seed := range int64(12) {
@@ -68,16 +71,69 @@ func TestShape(t *testing.T) {
 				if err := s.Write(l, false); err != nil {
 					t.Fatal(err)
 				}
-				d.Counts()
-				s.Get(fmt.Sprint(r.Intn(keys)))
-				if reads, bytes := d.Counts(); reads > len(s.levels[0])+api.MaxLevels-1 || bytes > api.MaxBlock {
-					t.Fatalf("Get: %d reads of up to %d bytes", reads, bytes)
+				if seed%2 == 1 && r.Intn(3) == 0 {
+					s.Snapshot()
+					s.Release(1 + r.Intn(s.given+2))
 				}
+				readsLittle(t, s, fmt.Sprint(r.Intn(keys)))
 			}
 		}
 	}
 	if want := [api.MaxLevels]int{5, 6, 6, 10}; most[0] != want[0] || most[1] != want[1] || most[2] != want[2] || most[3] < want[3] {
 		t.Errorf("the levels had at most %d tables, want %d: too few to tell", most, want)
+	}
+}
+
+// readsLittle tests how much is read for a key, now and in each snapshot.
+func readsLittle(t *testing.T, s *Store, key string) {
+	t.Helper()
+	s.disk.Counts()
+	count := func(what string) {
+		if reads, bytes := s.disk.Counts(); reads > len(s.levels[0])+api.MaxLevels-1 || bytes > api.MaxBlock {
+			t.Fatalf("%s: %d reads of up to %d bytes", what, reads, bytes)
+		}
+	}
+	s.Get(key)
+	count("Get")
+	for n := range s.snaps {
+		s.GetAt(n, key)
+		count("GetAt")
+	}
+}
+
+// TestReleased: what was kept for a snapshot is gone when it is released, from memory at once and from tables when they are merged.
+func TestReleased(t *testing.T) {
+	for _, memory := range []int{1, 20} {
+		s, err := Open(api.NewDisk(1<<30), api.Options{Memory: memory, Tables: 2})
+		if err != nil {
+			t.Fatal(err)
+		}
+		put := func(key string, n int) {
+			for range n {
+				if err := s.Write([]api.Change{{Key: key}}, false); err != nil {
+					t.Fatal(err)
+				}
+			}
+		}
+		has := func(want int) {
+			t.Helper()
+			tables := s.levels.Tables()
+			if n := len(s.memory) + tables.Count(); n != want {
+				t.Errorf("Memory %d: %d entries, want %d", memory, n, want)
+			}
+		}
+		for i := range api.MaxSnaps {
+			put("a", 2)
+			s.Snapshot()
+			has(i + 1)
+		}
+		put("a", 2)
+		has(api.MaxSnaps + 1)
+		for i := range api.MaxSnaps {
+			s.Release(i + 1)
+			put("a", 2)
+			has(api.MaxSnaps - i)
+		}
 	}
 }
 

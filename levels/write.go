@@ -44,7 +44,7 @@ func (s *Store) do(l []api.Change, sync bool) error {
 	if len(batch) > 0 {
 		full := s.changes+len(batch) >= s.options.Memory
 		if full || s.torn {
-			return s.settle(s.memory.With(batch), s.batches+1)
+			return s.settle(s.with(batch), s.batches+1)
 		}
 		if err := s.record(batch); err != nil {
 			return err
@@ -69,7 +69,7 @@ func (s *Store) record(batch []rows.Entry) error {
 		return err
 	}
 	s.looseBytes = true
-	s.memory = s.memory.With(batch)
+	s.memory = s.with(batch)
 	s.changes += len(batch)
 	s.batches++
 	return nil

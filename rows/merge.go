@@ -61,17 +61,24 @@ func only(next Next, keep func(Entry) bool) Next {
 	}
 }
 
-// Newest merges rows, and hands out just one entry for each key, the newest.
-func Newest(l []Row, lo string) Next {
+// From hands out the entries of several rows whose keys are not below lo, as Merge does.
+func From(l []Row, lo string) Next {
 	nexts := make([]Next, 0, len(l))
 	for _, r := range l {
 		nexts = append(nexts, r.From(lo))
 	}
+	return Merge(nexts)
+}
+
+// At is From as it was when so many batches were done: one entry for each key, the newest of that time.
+func At(l []Row, lo string, batches uint64) Next {
 	last := "" // no key is empty
-	return only(Merge(nexts), func(e Entry) bool {
-		first := e.Key != last
+	return only(From(l, lo), func(e Entry) bool {
+		if e.Batch > batches || e.Key == last {
+			return false
+		}
 		last = e.Key
-		return first
+		return true
 	})
 }
 

@@ -2,46 +2,47 @@ package rows
 
 import (
 	"iter"
+	"math"
 	"slices"
-	"strings"
+	"sort"
 )
 
 // Next hands out the next entry of a row; false behind the last one.
 type Next func() (Entry, bool, error)
 
-// Row is entries by their keys, wherever they are.
+// Row is entries by their keys, of one key the newest first, wherever they are.
 type Row interface {
-	// Find gives the entry of a key, if there is one.
-	Find(key string) (Entry, bool, error)
+	// Find gives the newest entry of a key that no batch behind that one made, if there is one.
+	Find(key string, batch uint64) (Entry, bool, error)
 	// From hands out the entries whose keys are not below lo.
 	From(lo string) Next
 }
 
-// List is a row in memory: one entry for each key.
+// List is a row in memory.
 type List []Entry
 
-// place tells where a key stands in the list, or would stand.
-func (l List) place(key string) (int, bool) {
-	return slices.BinarySearchFunc(l, key, func(e Entry, key string) int {
-		return strings.Compare(e.Key, key)
-	})
+// place tells where an entry of that key and batch stands in the list, or would stand.
+func (l List) place(key string, batch uint64) int {
+	e := Entry{Key: key, Batch: batch}
+	return sort.Search(len(l), func(i int) bool { return !ahead(l[i], e) })
 }
 
-// Sorted tells whether each key is above the one ahead of it.
+// Sorted tells whether the entries are in their order, and no two have the same place in it.
 func (l List) Sorted() bool {
 	for i := range l {
-		if i > 0 && l[i-1].Key >= l[i].Key {
+		if i > 0 && !ahead(l[i-1], l[i]) {
 			return false
 		}
 	}
 	return true
 }
 
-// With is a new list in which these entries are done, one behind the other.
+// With is a new list in which these entries are done, one behind the other. Of several that one batch made of a key the last holds.
 func (l List) With(more []Entry) List {
 	n := slices.Clone(l)
 	for _, e := range more {
-		if i, ok := n.place(e.Key); ok {
+		i := n.place(e.Key, e.Batch)
+		if i < len(n) && n[i].Key == e.Key && n[i].Batch == e.Batch {
 			n[i] = e
 		} else {
 			n = slices.Insert(n, i, e)
@@ -51,9 +52,9 @@ func (l List) With(more []Entry) List {
 }
 
 // Find is Row's.
-func (l List) Find(key string) (Entry, bool, error) {
-	i, ok := l.place(key)
-	if !ok {
+func (l List) Find(key string, batch uint64) (Entry, bool, error) {
+	i := l.place(key, batch)
+	if i == len(l) || l[i].Key != key {
 		return Entry{}, false, nil
 	}
 	return l[i], true, nil
@@ -61,7 +62,7 @@ func (l List) Find(key string) (Entry, bool, error) {
 
 // From is Row's.
 func (l List) From(lo string) Next {
-	i, _ := l.place(lo)
+	i := l.place(lo, math.MaxUint64)
 	return func() (Entry, bool, error) {
 		if i == len(l) {
 			return Entry{}, false, nil

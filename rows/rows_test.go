@@ -2,6 +2,7 @@ package rows
 
 import (
 	"errors"
+	"math"
 	"math/rand"
 	"slices"
 	"strconv"
@@ -38,32 +39,153 @@ func check(t *testing.T, what string, next Next, want string) {
 func TestList(t *testing.T) {
 	var l List
 	one := l.With(read("b=1@1 a=2@1 c=3@1 b=4@1"))
-	two := one.With(read("-a@2 d=5@2"))
+	two := one.With(read("a=7@2 -a@2 d=5@2"))
 	check(t, "nothing", l.From(""), "")
 	check(t, "one batch", one.From(""), "a=2@1 b=4@1 c=3@1")
-	check(t, "two batches", two.From(""), "-a@2 b=4@1 c=3@1 d=5@2")
+	check(t, "two batches", two.From(""), "-a@2 a=2@1 b=4@1 c=3@1 d=5@2")
+	check(t, "from a", two.From("a"), "-a@2 a=2@1 b=4@1 c=3@1 d=5@2")
 	check(t, "from b", two.From("b"), "b=4@1 c=3@1 d=5@2")
 	check(t, "from bb", two.From("bb"), "c=3@1 d=5@2")
 	check(t, "from e", two.From("e"), "")
-	if e, ok, err := two.Find("a"); !ok || !e.Deleted || err != nil {
-		t.Errorf("Find(a): %v, %v, %v", e, ok, err)
+	if !two.Sorted() || !List(read("a=@2 a=@1")).Sorted() {
+		t.Error("what is sorted is not")
 	}
-	if e, ok, err := two.Find("bb"); ok || e != (Entry{}) || err != nil {
-		t.Errorf("Find(bb): %v, %v, %v", e, ok, err)
-	}
-	if !two.Sorted() || List(read("a= a=")).Sorted() || List(read("b= a=")).Sorted() {
-		t.Error("Sorted")
+	for _, s := range []string{"a= a=", "a=@1 a=@2", "b= a=", "b=@1 a=@2"} {
+		if List(read(s)).Sorted() {
+			t.Errorf("%s is sorted", s)
+		}
 	}
 }
 
-func TestNewest(t *testing.T) {
-	l := []Row{List(read("-a@9 c=9@9")), List(read("a=5@5 b=5@5")), List(read("a=1@1 c=1@1 d=1@1")), List(nil)}
-	check(t, "Newest", Newest(l, ""), "-a@9 b=5@5 c=9@9 d=1@1")
-	check(t, "Newest from b", Newest(l, "b"), "b=5@5 c=9@9 d=1@1")
-	check(t, "Present", Present(Newest(l, "")), "b=5@5 c=9@9 d=1@1")
-	check(t, "no row", Newest(nil, ""), "")
-	slices.Reverse(l)
-	check(t, "Newest, whatever the rows' order", Newest(l, ""), "-a@9 b=5@5 c=9@9 d=1@1")
+func TestFind(t *testing.T) {
+	l := List(read("a=3@3 a=2@2 -b@9 b=5@5 b=1@1 d=2@2"))
+	for _, c := range []struct {
+		key   string
+		batch uint64
+		want  string
+	}{
+		{"a", 0, ""}, {"a", 1, ""}, {"a", 2, "a=2@2"}, {"a", 3, "a=3@3"}, {"a", math.MaxUint64, "a=3@3"},
+		{"b", 0, ""}, {"b", 1, "b=1@1"}, {"b", 4, "b=1@1"}, {"b", 5, "b=5@5"}, {"b", 8, "b=5@5"}, {"b", 9, "-b@9"},
+		{"", 9, ""}, {"aa", 9, ""}, {"c", 9, ""}, {"d", 1, ""}, {"d", 2, "d=2@2"}, {"e", 9, ""},
+	} {
+		var got List
+		e, ok, err := l.Find(c.key, c.batch)
+		if ok {
+			got = append(got, e)
+		}
+		if !slices.Equal(got, read(c.want)) || !ok && e != (Entry{}) || err != nil {
+			t.Errorf("Find(%q, %d): %v, %v, %v, want %q", c.key, c.batch, e, ok, err, c.want)
+		}
+	}
+}
+
+func TestKeys(t *testing.T) {
+	for _, want := range []string{"", "a=@1", "a=@2 a=@1", "a=@1/b=@1", "a=@3 a=@2 a=@1/b=@1/c=@2 c=@1"} {
+		var got []string
+		keys := List(read(strings.ReplaceAll(want, "/", " "))).Keys()
+		for range 2 {
+			got = nil
+			for l := range keys {
+				s := ""
+				for _, e := range l {
+					s += " " + e.Key + "=@" + strconv.FormatUint(e.Batch, 10)
+				}
+				got = append(got, s[1:])
+			}
+		}
+		if s := strings.Join(got, "/"); s != want {
+			t.Errorf("%q, want %q", s, want)
+		}
+		for range keys {
+			break
+		}
+	}
+}
+
+func TestNeeded(t *testing.T) {
+	const all = "a=9@9 a=7@7 -a@5 a=3@3 b=4@4 -c@8 c=2@2"
+	for _, c := range []struct {
+		moments []uint64
+		want    string
+	}{
+		{nil, "a=9@9 b=4@4 -c@8"},
+		{[]uint64{0}, "a=9@9 b=4@4 -c@8"},
+		{[]uint64{2}, "a=9@9 b=4@4 -c@8 c=2@2"},
+		{[]uint64{4}, "a=9@9 a=3@3 b=4@4 -c@8 c=2@2"},
+		{[]uint64{5}, "a=9@9 -a@5 b=4@4 -c@8 c=2@2"},
+		{[]uint64{6, 6}, "a=9@9 -a@5 b=4@4 -c@8 c=2@2"},
+		{[]uint64{8}, "a=9@9 a=7@7 b=4@4 -c@8"},
+		{[]uint64{9}, "a=9@9 b=4@4 -c@8"},
+		{[]uint64{math.MaxUint64}, "a=9@9 b=4@4 -c@8"},
+		{[]uint64{3, 5, 7, 9}, "a=9@9 a=7@7 -a@5 a=3@3 b=4@4 -c@8 c=2@2"},
+		{[]uint64{9, 7, 5, 3}, "a=9@9 a=7@7 -a@5 a=3@3 b=4@4 -c@8 c=2@2"},
+	} {
+		l := List(read(all))
+		if got := l.Needed(c.moments); !slices.Equal(got, read(c.want)) || !slices.Equal(l, read(all)) {
+			t.Errorf("at %v: %v, want %s", c.moments, got, c.want)
+		}
+	}
+}
+
+// TestNeededAtRandom: what is left answers as all did, now and at the moments, and there is no more than one entry for each.
+func TestNeededAtRandom(t *testing.T) {
+	r := rand.New(rand.NewSource(1))
+	for range 500 {
+		var l List
+		for batch := range uint64(1 + r.Intn(20)) {
+			l = l.With([]Entry{{Key: string(rune('a' + r.Intn(3))), Batch: batch, Deleted: r.Intn(3) == 0}})
+		}
+		var moments []uint64
+		for range r.Intn(4) {
+			moments = append(moments, uint64(r.Intn(20)))
+		}
+		n := l.Needed(moments)
+		for _, at := range append(moments, math.MaxUint64) {
+			want, _ := Collect(Present(At([]Row{l}, "", at)))
+			for _, x := range []List{n, n.Bare()} {
+				if got, _ := Collect(Present(At([]Row{x}, "", at))); !slices.Equal(got, want) {
+					t.Fatalf("%v, of it needed at %v: %v: at %d it is %v, want %v", l, moments, n, at, got, want)
+				}
+			}
+		}
+		for versions := range n.Keys() {
+			if len(versions) > 1+len(moments) {
+				t.Fatalf("needed at %v: %v", moments, versions)
+			}
+		}
+	}
+}
+
+func TestBare(t *testing.T) {
+	for s, want := range map[string]string{
+		"":                         "",
+		"-a@1":                     "",
+		"-a@2 -a@1 b=@1":           "b=@1",
+		"a=2@2 -a@1":               "a=2@2",
+		"-a@2 a=@1":                "-a@2 a=@1",
+		"-a@5 a=@4 -a@3 -a@2 b=@2": "-a@5 a=@4 b=@2",
+	} {
+		l := List(read(s))
+		if got := l.Bare(); !slices.Equal(got, read(want)) || !slices.Equal(l, read(s)) {
+			t.Errorf("%q: %v, want %q", s, got, want)
+		}
+	}
+}
+
+func TestAt(t *testing.T) {
+	l := []Row{List(read("-a@9 a=8@8 c=9@9")), List(read("a=5@5 b=5@5 b=4@4")), List(read("a=1@1 c=1@1 d=1@1")), List(nil)}
+	for range 2 {
+		check(t, "From", From(l, ""), "-a@9 a=8@8 a=5@5 a=1@1 b=5@5 b=4@4 c=9@9 c=1@1 d=1@1")
+		check(t, "From b", From(l, "b"), "b=5@5 b=4@4 c=9@9 c=1@1 d=1@1")
+		check(t, "At 9", At(l, "", 9), "-a@9 b=5@5 c=9@9 d=1@1")
+		check(t, "At 9 from b", At(l, "b", math.MaxUint64), "b=5@5 c=9@9 d=1@1")
+		check(t, "At 8", At(l, "", 8), "a=8@8 b=5@5 c=1@1 d=1@1")
+		check(t, "At 4", At(l, "", 4), "a=1@1 b=4@4 c=1@1 d=1@1")
+		check(t, "At 0", At(l, "", 0), "")
+		check(t, "Present", Present(At(l, "", 9)), "b=5@5 c=9@9 d=1@1")
+		slices.Reverse(l) // the rows may have any order
+	}
+	check(t, "no row", At(nil, "", 9), "")
 }
 
 func TestMergeAtRandom(t *testing.T) {
@@ -80,7 +202,7 @@ func TestMergeAtRandom(t *testing.T) {
 			}
 			l = append(l, row)
 		}
-		got, err := Collect(Newest(l, ""))
+		got, err := Collect(At(l, "", math.MaxUint64))
 		if err != nil || len(got) != len(want) || !got.Sorted() {
 			t.Fatalf("%v, %v, want %v", got, err, want)
 		}

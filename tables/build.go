@@ -21,12 +21,20 @@ type Mark struct {
 	Sum      uint32
 }
 
-// Split deals entries out to as few tables as hold them, about as many to each.
+// fill is how many entries a table is to have at most: a key's other versions, one for each snapshot, may come on top.
+const fill = api.MaxCount - api.MaxSnaps
+
+// Split deals entries out to tables, about as many to each. Those of one key stay together: below level 0 no two tables may have it.
 func Split(l rows.List) []rows.List {
-	n := (len(l) + api.MaxCount - 1) / api.MaxCount
+	n := (len(l) + fill - 1) / fill
 	parts := make([]rows.List, 0, n)
-	for i := range n {
-		parts = append(parts, l[i*len(l)/n:(i+1)*len(l)/n])
+	from, to := 0, 0
+	for versions := range l.Keys() {
+		to += len(versions)
+		if to >= (len(parts)+1)*len(l)/n {
+			parts = append(parts, l[from:to])
+			from = to
+		}
 	}
 	return parts
 }
@@ -48,30 +56,35 @@ func (t *Table) Write(d *api.Disk, number uint64) error {
 	return nil
 }
 
-// putEntry writes an entry with its batch.
-func putEntry(e rows.Entry) []byte {
-	return rows.Put(code.PutLong(nil, e.Batch), e)
+// putEntries writes entries, each with its batch.
+func putEntries(l rows.List) []byte {
+	var b []byte
+	for _, e := range l {
+		b = rows.Put(code.PutLong(b, e.Batch), e)
+	}
+	return b
 }
 
-// putBlocks writes entries as blocks of at most MaxBlock bytes, one behind the other.
+// putBlocks writes entries as blocks of at most MaxBlock bytes, one behind the other. Those of one key stay together, so that one read finds each.
 func putBlocks(l rows.List) ([]byte, []block) {
 	var data, piece []byte
 	var blocks []block
-	from := 0
-	end := func(to int) {
+	from, to := 0, 0
+	end := func() {
 		piece = code.Seal(piece)
 		blocks = append(blocks, block{len(data), len(piece), to - from, l[from].Key, l[to-1].Key})
 		data = append(data, piece...)
 		piece, from = nil, to
 	}
-	for i, e := range l {
-		b := putEntry(e)
+	for versions := range l.Keys() {
+		b := putEntries(versions)
 		if code.Sealed(len(piece)+len(b)) > api.MaxBlock {
-			end(i)
+			end()
 		}
 		piece = append(piece, b...)
+		to += len(versions)
 	}
-	end(len(l))
+	end()
 	return data, blocks
 }
 

@@ -49,12 +49,12 @@ func (l Level) place(key string) int {
 }
 
 // Find is Row's: it asks one table at most.
-func (l Level) Find(key string) (rows.Entry, bool, error) {
+func (l Level) Find(key string, batch uint64) (rows.Entry, bool, error) {
 	i := l.place(key)
 	if i == len(l) {
 		return rows.Entry{}, false, nil
 	}
-	return l[i].Find(key)
+	return l[i].Find(key, batch)
 }
 
 // From is Row's.

@@ -7,8 +7,8 @@ import (
 	"levels/rows"
 )
 
-// Down is the levels behind a merge of tables of level i, which has some, into the next one. Of level 0 all are taken, for each may have any keys, and the next level with them, so that its tables stay well filled. Of another level one is taken, and what the next level has of its keys.
-func (l Levels) Down(i int) (Levels, error) {
+// Down is the levels behind a merge of tables of level i, which has some, into the next one. Of level 0 all are taken, for each may have any keys, and the next level with them, so that its tables stay well filled. Of another level one is taken, and what the next level has of its keys. What was there at these moments (numbers of batches, at most MaxSnaps) is kept.
+func (l Levels) Down(i int, moments []uint64) (Levels, error) {
 	taken, left := l[i], Level(nil)
 	before, within, behind := Level(nil), l[i+1], Level(nil)
 	if i > 0 {
@@ -16,12 +16,16 @@ func (l Levels) Down(i int) (Levels, error) {
 		taken, left = l[i][j:j+1], slices.Concat(l[i][:j], l[i][j+1:])
 		before, within, behind = l[i+1].Cut(taken[0].First(), taken[0].Last())
 	}
-	// Where nothing older lies below, a deleted key need not be told of any more.
-	made, err := merge(taken, within, l.Empty(i+2))
+	all, err := merged(taken, within)
 	if err != nil {
 		return Levels{}, err
 	}
-	l[i], l[i+1] = left, slices.Concat(before, made, behind)
+	all = all.Needed(moments)
+	if l.Empty(i + 2) {
+		// Nothing older lies below.
+		all = all.Bare()
+	}
+	l[i], l[i+1] = left, slices.Concat(before, newTables(all), behind)
 	return l, nil
 }
 
@@ -37,23 +41,20 @@ func (l *Levels) lightest(i int) int {
 	return best
 }
 
-// merge makes new tables of some tables and of a piece of the level below them, without the deleted keys if nothing is older.
-func merge(taken, within Level, oldest bool) (Level, error) {
+// merged is the entries of some tables and of a piece of the level below them.
+func merged(taken, within Level) (rows.List, error) {
 	list := []rows.Row{within}
 	for _, t := range taken {
 		list = append(list, t)
 	}
-	next := rows.Newest(list, "")
-	if oldest {
-		next = rows.Present(next)
-	}
-	all, err := rows.Collect(next)
-	if err != nil {
-		return nil, err
-	}
+	return rows.Collect(rows.From(list, ""))
+}
+
+// newTables makes tables of entries.
+func newTables(l rows.List) Level {
 	var made Level
-	for _, part := range Split(all) {
+	for _, part := range Split(l) {
 		made = append(made, New(part))
 	}
-	return made, nil
+	return made
 }

@@ -82,7 +82,7 @@ func (t *Table) place(key string) int {
 }
 
 // Find is Row's: it reads one block, and none if the key is between two.
-func (t *Table) Find(key string) (rows.Entry, bool, error) {
+func (t *Table) Find(key string, batch uint64) (rows.Entry, bool, error) {
 	i := t.place(key)
 	if i == len(t.blocks) || t.blocks[i].first > key {
 		return rows.Entry{}, false, nil
@@ -91,7 +91,7 @@ func (t *Table) Find(key string) (rows.Entry, bool, error) {
 	if err != nil {
 		return rows.Entry{}, false, err
 	}
-	return l.Find(key)
+	return l.Find(key, batch)
 }
 
 // From is Row's: it reads block by block, as they are asked for.

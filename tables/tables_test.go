@@ -3,6 +3,7 @@ package tables
 import (
 	"errors"
 	"fmt"
+	"math"
 	"math/rand"
 	"slices"
 	"testing"
@@ -53,7 +54,7 @@ func TestTable(t *testing.T) {
 		}
 		for i, e := range want {
 			d.Counts()
-			if got, ok, err := x.Find(e.Key); got != e || !ok || err != nil {
+			if got, ok, err := x.Find(e.Key, math.MaxUint64); got != e || !ok || err != nil {
 				t.Errorf("Find(%q): %v, %v, %v", e.Key, got, ok, err)
 			}
 			if reads, most := d.Counts(); reads != 1 || most > api.MaxBlock {
@@ -63,7 +64,7 @@ func TestTable(t *testing.T) {
 				t.Errorf("From(%q): %v, %v", e.Key, got, err)
 			}
 			key := e.Key + "x"
-			if got, ok, err := x.Find(key); got != (rows.Entry{}) || ok || err != nil {
+			if got, ok, err := x.Find(key, math.MaxUint64); got != (rows.Entry{}) || ok || err != nil {
 				t.Errorf("Find(%q): %v, %v, %v", key, got, ok, err)
 			}
 			if got, err := rows.Collect(x.From(key)); err != nil || !slices.Equal(got, want[i+1:]) {
@@ -73,7 +74,7 @@ func TestTable(t *testing.T) {
 		d.Counts()
 		for i, k := range x.blocks {
 			for _, key := range []string{"a", k.last + "x"} {
-				if _, ok, err := x.Find(key); ok || err != nil {
+				if _, ok, err := x.Find(key, math.MaxUint64); ok || err != nil {
 					t.Errorf("block %d: Find(%q): %v, %v", i, key, ok, err)
 				}
 			}
@@ -84,22 +85,68 @@ func TestTable(t *testing.T) {
 	}
 }
 
-func TestSplit(t *testing.T) {
-	for _, n := range []int{0, 1, 99, 100, 101, 200, 201, 999, 1000} {
-		l := some(0, n)
-		parts := Split(l)
-		if want := (n + 99) / 100; len(parts) != want {
-			t.Errorf("%d entries: %d tables, want %d", n, len(parts), want)
+// versions is n keys with as many entries each as times tells, in turn.
+func versions(n int, times ...int) rows.List {
+	var l rows.List
+	for i, e := range some(0, n) {
+		for j := range times[i%len(times)] {
+			e.Deleted, e.Batch = false, uint64(1000-10*j)
+			l = append(l, e)
 		}
-		var all rows.List
-		for _, p := range parts {
-			if len(p) > api.MaxCount || len(p) < n/len(parts) {
-				t.Errorf("%d entries: a table of %d", n, len(p))
+	}
+	return l
+}
+
+// TestVersions: all entries of a key are found, in one read.
+func TestVersions(t *testing.T) {
+	for _, times := range [][]int{{5}, {4}, {1, 5}, {5, 2, 1, 3}} {
+		d := api.NewDisk(1 << 20)
+		want := versions(20, times...)
+		x := made(t, d, 3, want)
+		if got, err := rows.Collect(x.From("")); err != nil || !slices.Equal(got, want) || x.Count() != len(want) {
+			t.Errorf("%v: %d entries, %v, %v", times, x.Count(), got, err)
+		}
+		d.Counts()
+		for i, e := range want {
+			for batch := e.Batch; batch < e.Batch+10; batch++ {
+				if got, ok, err := x.Find(e.Key, batch); got != e || !ok || err != nil {
+					t.Errorf("Find(%q, %d): %v, %v, %v", e.Key, batch, got, ok, err)
+				}
+				if reads, most := d.Counts(); reads != 1 || most > api.MaxBlock {
+					t.Errorf("Find(%q, %d): %d reads of up to %d bytes", e.Key, batch, reads, most)
+				}
 			}
-			all = append(all, p...)
+			first := i - slices.IndexFunc(want, func(o rows.Entry) bool { return o.Key == e.Key })
+			if got, err := rows.Collect(x.From(e.Key)); err != nil || !slices.Equal(got, want[i-first:]) {
+				t.Errorf("From(%q): %v, %v", e.Key, got, err)
+			}
+			if got, ok, err := x.Find(e.Key, 900); got != (rows.Entry{}) || ok || err != nil {
+				t.Errorf("Find(%q, 900): %v, %v, %v", e.Key, got, ok, err)
+			}
+			d.Counts()
 		}
-		if !slices.Equal(all, l) {
-			t.Errorf("%d entries: the tables have others", n)
+	}
+}
+
+// TestSplit: no table has too many entries, none has few if others have many, and none shares a key with another.
+func TestSplit(t *testing.T) {
+	for _, times := range [][]int{{1}, {5}, {1, 1, 5}, {2, 3}, {5, 4, 3, 2, 1}} {
+		for n := range 500 {
+			l := versions(n, times...)
+			parts := Split(l)
+			var all rows.List
+			for i, p := range parts {
+				if len(p) > api.MaxCount || len(p) < len(l)/len(parts)-api.MaxSnaps {
+					t.Errorf("%d entries in %d tables: one of %d", len(l), len(parts), len(p))
+				}
+				if i > 0 && all[len(all)-1].Key == p[0].Key {
+					t.Errorf("%d entries: %q is in two tables", len(l), p[0].Key)
+				}
+				all = append(all, p...)
+			}
+			if !slices.Equal(all, l) {
+				t.Errorf("%d entries: the tables have others", len(l))
+			}
 		}
 	}
 }
@@ -111,7 +158,7 @@ func TestNew(t *testing.T) {
 	if got, err := rows.Collect(x.From("")); err != nil || !slices.Equal(got, want) || x.Written() {
 		t.Errorf("%v, %v, written %v", got, err, x.Written())
 	}
-	if got, ok, err := x.Find(want[20].Key); got != want[20] || !ok || err != nil {
+	if got, ok, err := x.Find(want[20].Key, math.MaxUint64); got != want[20] || !ok || err != nil {
 		t.Errorf("Find: %v, %v, %v", got, ok, err)
 	}
 }
@@ -139,7 +186,7 @@ func TestLevel(t *testing.T) {
 	}
 	for i, e := range all {
 		d.Counts()
-		if got, ok, err := l.Find(e.Key); got != e || !ok || err != nil {
+		if got, ok, err := l.Find(e.Key, math.MaxUint64); got != e || !ok || err != nil {
 			t.Errorf("Find(%q): %v, %v, %v", e.Key, got, ok, err)
 		}
 		if reads, _ := d.Counts(); reads != 1 {
@@ -150,11 +197,11 @@ func TestLevel(t *testing.T) {
 		}
 	}
 	for _, key := range []string{"a", "k0000001", "k0000100", "z"} {
-		if e, ok, err := l.Find(key); ok || e != (rows.Entry{}) || err != nil {
+		if e, ok, err := l.Find(key, math.MaxUint64); ok || e != (rows.Entry{}) || err != nil {
 			t.Errorf("Find(%q): %v, %v, %v", key, e, ok, err)
 		}
 	}
-	if _, ok, err := (Level{}).Find("a"); ok || err != nil {
+	if _, ok, err := (Level{}).Find("a", math.MaxUint64); ok || err != nil {
 		t.Errorf("a level without tables: %v, %v", ok, err)
 	}
 }
@@ -240,7 +287,7 @@ func found(x *Table, want rows.List) error {
 		return nil
 	}
 	for _, e := range want {
-		got, ok, err := x.Find(e.Key)
+		got, ok, err := x.Find(e.Key, math.MaxUint64)
 		if !errors.Is(err, api.ErrCorrupt) && (got != e || !ok || err != nil) {
 			return fmt.Errorf("Find(%q): %v, %v, %v", e.Key, got, ok, err)
 		}
@@ -252,7 +299,7 @@ func TestFails(t *testing.T) {
 	d := api.NewDisk(1 << 20)
 	x := made(t, d, 3, some(0, 20))
 	d.Fail(0, 1)
-	if _, _, err := x.Find(x.First()); !errors.Is(err, api.ErrDisk) {
+	if _, _, err := x.Find(x.First(), math.MaxUint64); !errors.Is(err, api.ErrDisk) {
 		t.Errorf("Find: %v", err)
 	}
 	d.Fail(1, 1)
@@ -322,7 +369,7 @@ func TestOther(t *testing.T) {
 		if err != nil {
 			t.Fatal(err)
 		}
-		if _, _, err := x.Find(l[1].Key); !errors.Is(err, api.ErrCorrupt) {
+		if _, _, err := x.Find(l[1].Key, math.MaxUint64); !errors.Is(err, api.ErrCorrupt) {
 			t.Errorf("block %d: %v", i, err)
 		}
 	}
@@ -331,7 +378,7 @@ func TestOther(t *testing.T) {
 	blocks[0].first, blocks[0].last = blocks[0].last, blocks[0].first
 	if x, err := open(t, data, putIndex(blocks)); err != nil {
 		t.Error(err)
-	} else if _, _, err := x.Find(l[1].Key); !errors.Is(err, api.ErrCorrupt) {
+	} else if _, _, err := x.Find(l[1].Key, math.MaxUint64); !errors.Is(err, api.ErrCorrupt) {
 		t.Errorf("entries that are not sorted: %v", err)
 	}
 }
@@ -347,7 +394,7 @@ func TestAnyBytes(t *testing.T) {
 			index = putIndex([]block{{0, len(data), 1 + r.Intn(3), "a", "b"}})
 		}
 		if x, err := open(t, data, index); err == nil {
-			x.Find("a")
+			x.Find("a", math.MaxUint64)
 			rows.Collect(x.From(""))
 		}
 	}
