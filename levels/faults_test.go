@@ -28,9 +28,15 @@ func (p *past) done() int {
 	return len(p.all) - 1
 }
 
-// write writes batches till one is refused by the disk, and answers that error.
+// write writes batches, and compacts from time to time, till the disk refuses something, and answers that error.
 func (p *past) write(r *rand.Rand, s *levels.Store, n int) error {
 	for i := range n {
+		if r.Intn(12) == 0 {
+			if err := s.Compact(); err != nil {
+				return err
+			}
+			p.safe = len(p.all) - 1
+		}
 		if p.snaps && i%3 == 0 {
 			s.Snapshot()
 			s.Release(1 + r.Intn(20))
@@ -86,10 +92,11 @@ func TestSync(t *testing.T) {
 	}
 }
 
-// TestLeft: P4, P7: what an earlier store left without Close is made safe as well.
+// TestLeft: P4, P7, P11: what an earlier store left without Close is made safe as well.
 func TestLeft(t *testing.T) {
 	for _, safe := range []func(s *levels.Store) error{
 		func(s *levels.Store) error { return s.Close() },
+		func(s *levels.Store) error { return s.Compact() },
 		func(s *levels.Store) error { return s.Write(nil, true) },
 		func(s *levels.Store) error { return s.Write(batch("b=2"), true) },
 	} {
@@ -292,7 +299,16 @@ func flipped(t *testing.T, what string, d *api.Disk, p *past) {
 		}
 		return
 	}
-	c := p.all[len(p.all)-1]
+	flippedAnswers(t, what, s, p.all[len(p.all)-1])
+	if err := s.Compact(); err != nil && !errors.Is(err, api.ErrCorrupt) {
+		t.Errorf("%s: Compact: %v", what, err)
+	}
+	flippedAnswers(t, what+", behind Compact", s, p.all[len(p.all)-1])
+}
+
+// flippedAnswers tests that each answer is by the contents, or ErrCorrupt.
+func flippedAnswers(t *testing.T, what string, s *levels.Store, c contents) {
+	t.Helper()
 	if l, err := s.Scan("", "", 0); !errors.Is(err, api.ErrCorrupt) && (!slices.Equal(l, c.scan("", "", 0)) || err != nil) {
 		t.Errorf("%s: Scan: %v, %v", what, l, err)
 	}

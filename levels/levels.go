@@ -58,8 +58,7 @@ func (s *Store) Write(l []api.Change, sync bool) error {
 	if err := check(l); err != nil {
 		return err
 	}
-	s.failed = s.do(l, sync)
-	return s.failed
+	return s.ended(s.do(l, sync))
 }
 
 // Get tells a key's value (P5).
@@ -146,10 +145,24 @@ func (s *Store) Release(n int) error {
 }
 
 // Shape tells the tables, level by level (P9).
-func (s *Store) Shape() ([][]api.Table, error) { return nil, s.answer() }
+func (s *Store) Shape() ([][]api.Table, error) {
+	s.lock.Lock()
+	defer s.lock.Unlock()
+	if err := s.refusal(); err != nil {
+		return nil, err
+	}
+	return s.levels.Shape(), nil
+}
 
 // Compact brings the tables into their least form (P10).
-func (s *Store) Compact() error { return s.answer() }
+func (s *Store) Compact() error {
+	s.lock.Lock()
+	defer s.lock.Unlock()
+	if err := s.refusal(); err != nil {
+		return err
+	}
+	return s.ended(s.compact())
+}
 
 // Close ends it (P7).
 func (s *Store) Close() error {
@@ -164,21 +177,6 @@ func (s *Store) Close() error {
 		return s.failed
 	}
 	return s.makeSafe()
-}
-
-// refusal is why a call is not done: the store is closed, or failed.
-func (s *Store) refusal() error {
-	if s.closed {
-		return api.ErrClosed
-	}
-	return s.failed
-}
-
-// answer is what a call answers that is not built yet: the refusal, if there is one.
-func (s *Store) answer() error {
-	s.lock.Lock()
-	defer s.lock.Unlock()
-	return s.refusal()
 }
 
 // isClosed tells whether the store is closed.

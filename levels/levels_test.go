@@ -299,6 +299,9 @@ func TestZero(t *testing.T) {
 	if v != "" || ok || err == nil || l != nil || scanErr == nil || n != 0 || snapErr == nil {
 		t.Errorf("on a closed store, at a snapshot: %q, %v, %v; %v, %v; %d, %v", v, ok, err, l, scanErr, n, snapErr)
 	}
+	if l, err := s.Shape(); l != nil || !errors.Is(err, api.ErrClosed) {
+		t.Errorf("Shape of a closed store: %v, %v", l, err)
+	}
 }
 
 // TestKept: P2: what is handed in stays as it is and may be changed later; what comes out is nobody else's.

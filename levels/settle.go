@@ -3,22 +3,18 @@ package levels
 import (
 	"slices"
 
-	"levels/api"
 	"levels/files"
 	"levels/rows"
 	"levels/state"
 	"levels/tables"
 )
 
-// lastLevel is the one that may have any number of tables.
-const lastLevel = api.MaxLevels - 1
-
 // full tells whether a level has so many tables that some must go on to the next one.
 func (s *Store) full(level int, l tables.Level) bool {
 	if level == 0 {
 		return len(l) >= s.options.Tables
 	}
-	return level < lastLevel && len(l) > s.options.Tables
+	return level < tables.Deepest && len(l) > s.options.Tables
 }
 
 // settle makes a table of memory, with which so many batches are done, and merges the levels that are full. All that is written holds from the moment when the new state does; till then nothing has changed.
@@ -36,6 +32,19 @@ func (s *Store) settle(memory rows.List, batches uint64) error {
 		}
 	}
 	return s.commit(levels, batches)
+}
+
+// compact brings all that there is into its least form. If the tables have it already they stay, so that no room is needed, but what was done becomes safe all the same.
+func (s *Store) compact() error {
+	all, err := rows.Collect(rows.From(s.rows(), ""))
+	if err != nil {
+		return err
+	}
+	least := tables.Least(all, s.moments())
+	if s.changes == 0 && s.levels.AsFilled(&least) {
+		return s.makeSafe()
+	}
+	return s.commit(least, s.batches)
 }
 
 // commit writes the tables that are new, and the state with these tables and a new log; takes it over; and then takes away what it has no use for.

@@ -8,7 +8,37 @@ import (
 
 	"levels/api"
 	"levels/files"
+	"levels/rows"
+	"levels/tables"
 )
+
+// told tells what is wrong with what Shape tells of the tables, by what stands in their files.
+func told(s *Store) error {
+	shape, err := s.Shape()
+	if err != nil || len(shape) != api.MaxLevels {
+		return fmt.Errorf("Shape: %d levels, %v", len(shape), err)
+	}
+	for i, l := range s.levels {
+		if len(shape[i]) != len(l) {
+			return fmt.Errorf("Shape: level %d has %d tables, want %d", i, len(shape[i]), len(l))
+		}
+		for j, t := range l {
+			opened, err := tables.Open(s.disk, t.Mark())
+			if err != nil {
+				return err
+			}
+			all, err := rows.Collect(opened.From(""))
+			if err != nil {
+				return err
+			}
+			want := api.Table{Name: files.Table(t.Mark().Number), First: all[0].Key, Last: all[len(all)-1].Key, Count: len(all)}
+			if shape[i][j] != want {
+				return fmt.Errorf("Shape: %v, want %v", shape[i][j], want)
+			}
+		}
+	}
+	return nil
+}
 
 // tidy tells what is wrong with the shape of the tables and the files on the disk.
 func tidy(s *Store) error {
@@ -57,9 +87,14 @@ func TestShape(t *testing.T) {
 			if err != nil {
 				t.Fatal(err)
 			}
-			for range 300 {
+			for i := range 300 {
 				if err := tidy(s); err != nil {
 					t.Fatal(err)
+				}
+				if i%20 == 0 {
+					if err := told(s); err != nil {
+						t.Fatal(err)
+					}
 				}
 				for i, l := range s.levels {
 					most[i] = max(most[i], len(l))
@@ -70,6 +105,11 @@ func TestShape(t *testing.T) {
 				}
 				if err := s.Write(l, false); err != nil {
 					t.Fatal(err)
+				}
+				if r.Intn(200) == 0 {
+					if err := s.Compact(); err != nil || s.changes > 0 || len(s.memory) > 0 || s.logged {
+						t.Fatalf("behind Compact: %v, memory has %v", err, s.memory)
+					}
 				}
 				if seed%2 == 1 && r.Intn(3) == 0 {
 					s.Snapshot()
@@ -117,8 +157,8 @@ func TestReleased(t *testing.T) {
 		}
 		has := func(want int) {
 			t.Helper()
-			tables := s.levels.Tables()
-			if n := len(s.memory) + tables.Count(); n != want {
+			all := s.levels.Tables()
+			if n := len(s.memory) + all.Count(); n != want {
 				t.Errorf("Memory %d: %d entries, want %d", memory, n, want)
 			}
 		}
@@ -193,15 +233,15 @@ func TestInOrder(t *testing.T) {
 	const n = 4000
 	stayed := 0
 	for i := range n {
-		was := s.levels[lastLevel]
+		was := s.levels[tables.Deepest]
 		if err := s.Write([]api.Change{{Key: fmt.Sprintf("%08d", i)}}, false); err != nil {
 			t.Fatal(err)
 		}
-		if now := s.levels[lastLevel]; len(was) > 0 && len(now) > len(was) && slices.Equal(was, now[:len(was)]) {
+		if now := s.levels[tables.Deepest]; len(was) > 0 && len(now) > len(was) && slices.Equal(was, now[:len(was)]) {
 			stayed++
 		}
 	}
-	last := s.levels[lastLevel]
+	last := s.levels[tables.Deepest]
 	if len(last) > n/50 || stayed == 0 {
 		t.Errorf("%d tables with %d entries; %d times the old ones stayed", len(last), last.Count(), stayed)
 	}

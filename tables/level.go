@@ -15,6 +15,9 @@ type Level []*Table
 // Levels is all of them.
 type Levels [api.MaxLevels]Level
 
+// Deepest is the level from which no table goes on: it may have any number of them.
+const Deepest = api.MaxLevels - 1
+
 // apart tells whether each table's keys are above those of the one ahead of it.
 func (l Level) apart() bool {
 	for i := range l {
@@ -102,6 +105,29 @@ func (l *Levels) Empty(n int) bool {
 
 // Tables is the tables of all levels.
 func (l *Levels) Tables() Level { return slices.Concat(l[:]...) }
+
+// Shape tells what the tables are, level by level.
+func (l *Levels) Shape() [][]api.Table {
+	shape := make([][]api.Table, 0, len(l))
+	for _, level := range l {
+		list := make([]api.Table, 0, len(level))
+		for _, t := range level {
+			list = append(list, t.Shape())
+		}
+		shape = append(shape, list)
+	}
+	return shape
+}
+
+// AsFilled tells whether each level has as many tables, and as many entries in them, as another one's.
+func (l *Levels) AsFilled(o *Levels) bool {
+	for i := range l {
+		if len(l[i]) != len(o[i]) || l[i].Count() != o[i].Count() {
+			return false
+		}
+	}
+	return true
+}
 
 // OpenLevels opens the tables of all levels.
 func OpenLevels(d *api.Disk, marks [api.MaxLevels][]Mark) (Levels, error) {

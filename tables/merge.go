@@ -29,6 +29,11 @@ func (l Levels) Down(i int, moments []uint64) (Levels, error) {
 	return l, nil
 }
 
+// Least is levels with no more of all entries that there are than is needed, now and at these moments. They are in the deepest level: no other may have so many tables, and nothing older lies below it.
+func Least(all rows.List, moments []uint64) Levels {
+	return Levels{Deepest: newTables(all.Needed(moments).Bare())}
+}
+
 // lightest tells the table of a level with whose keys the next level has the fewest entries to be written anew.
 func (l *Levels) lightest(i int) int {
 	best, least := 0, math.MaxInt

@@ -158,3 +158,29 @@ func TestDownFails(t *testing.T) {
 		t.Errorf("%v, %v", n, err)
 	}
 }
+
+// TestLeast: all is in the deepest level, in tables that are apart, and no more of it than is needed.
+func TestLeast(t *testing.T) {
+	all := rows.List{{Key: "a", Batch: 2}, {Key: "b", Deleted: true, Batch: 5}, {Key: "b", Batch: 3}, {Key: "c", Deleted: true, Batch: 1}, {Key: "d", Batch: 9}, {Key: "d", Deleted: true, Batch: 4}}
+	for _, c := range []struct {
+		moments []uint64
+		want    string
+	}{{nil, "ad"}, {[]uint64{2}, "ad"}, {[]uint64{3}, "a-bbd"}, {[]uint64{4}, "a-bbd"}, {[]uint64{5, 9}, "ad"}} {
+		l := Least(all, c.moments)
+		if got := keys(t, l[Deepest]); got != c.want || len(l.Tables()) != 1 || len(l[Deepest]) != 1 {
+			t.Errorf("at %v: %q, want %q", c.moments, got, c.want)
+		}
+	}
+	if l := Least(nil, nil); !l.Empty(0) {
+		t.Errorf("of nothing: %v", l)
+	}
+	if l := Least(all[1:2], nil); !l.Empty(0) {
+		t.Errorf("of a deletion: %v", l)
+	}
+	for n := 1; n < 500; n++ {
+		l := Least(versions(n, 1, 5, 2), []uint64{960, 970, 980, 990})
+		if len(l.Tables()) != len(l[Deepest]) || !l[Deepest].apart() || l[Deepest].Count() != len(versions(n, 1, 5, 2)) {
+			t.Fatalf("%d keys: %d tables, %d entries", n, len(l[Deepest]), l[Deepest].Count())
+		}
+	}
+}

@@ -2,6 +2,7 @@ package tables
 
 import (
 	"sort"
+	"strings"
 
 	"levels/api"
 	"levels/files"
@@ -52,6 +53,11 @@ func (t *Table) Count() int {
 		n += k.count
 	}
 	return n
+}
+
+// Shape tells what the table is, in texts of which the table has no part.
+func (t *Table) Shape() api.Table {
+	return api.Table{Name: t.Name(), First: strings.Clone(t.First()), Last: strings.Clone(t.Last()), Count: t.Count()}
 }
 
 // bytes reads the bytes of a block.

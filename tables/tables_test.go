@@ -7,6 +7,7 @@ import (
 	"math/rand"
 	"slices"
 	"testing"
+	"unsafe"
 
 	"levels/api"
 	"levels/code"
@@ -255,6 +256,47 @@ func TestLevels(t *testing.T) {
 	marks[1] = nil
 	if o, err := OpenLevels(d, marks); !errors.Is(err, api.ErrMissing) || !o.Empty(0) {
 		t.Errorf("a table that is gone: %v", err)
+	}
+}
+
+// TestShape: what is told of the tables, in texts of its own; a level without tables has its list.
+func TestShape(t *testing.T) {
+	d := api.NewDisk(1 << 20)
+	l := Levels{0: {made(t, d, 7, some(0, 3)), made(t, d, 9, versions(1, 5))}, 2: {made(t, d, 8, some(5, api.MaxCount))}}
+	want := [][]api.Table{
+		{{Name: "table-7", First: "k0000000", Last: "k0000004", Count: 3}, {Name: "table-9", First: "k0000000", Last: "k0000000", Count: 5}},
+		{},
+		{{Name: "table-8", First: "k0000010", Last: "k0000208", Count: api.MaxCount}},
+		{},
+	}
+	for range 2 {
+		got := l.Shape()
+		if !slices.EqualFunc(got, want, slices.Equal) {
+			t.Errorf("%v, want %v", got, want)
+		}
+		for _, x := range slices.Concat(got...) {
+			*unsafe.StringData(x.First), *unsafe.StringData(x.Last) = 'x', 'x'
+		}
+	}
+}
+
+func TestAsFilled(t *testing.T) {
+	l := Levels{0: {New(some(0, 3))}, 3: {New(some(0, 9)), New(some(20, 4))}}
+	same := Levels{0: {New(some(9, 3))}, 3: {New(some(0, 4)), New(some(20, 9))}}
+	if !l.AsFilled(&same) {
+		t.Error("levels that are as filled are not")
+	}
+	for i, o := range []Levels{
+		{},
+		{0: l[0]},
+		{1: l[0], 3: l[3]},
+		{0: {New(some(0, 4))}, 3: l[3]},
+		{0: l[0], 3: {New(some(0, 13))}},
+		{0: l[0], 3: {New(some(0, 9)), New(some(20, 5))}},
+	} {
+		if l.AsFilled(&o) || o.AsFilled(&l) {
+			t.Errorf("levels %d are as filled", i)
+		}
 	}
 }
 
