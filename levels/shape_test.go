@@ -4,6 +4,7 @@ import (
 	"fmt"
 	"math/rand"
 	"slices"
+	"sync"
 	"testing"
 
 	"levels/api"
@@ -245,4 +246,67 @@ func TestInOrder(t *testing.T) {
 	if len(last) > n/50 || stayed == 0 {
 		t.Errorf("%d tables with %d entries; %d times the old ones stayed", len(last), last.Count(), stayed)
 	}
+}
+
+// TestShapeTogether: P8: what Shape tells is of one moment, while others write and compact: whatever makes a table below level 0 empties that, so the tables there are always the newest.
+func TestShapeTogether(t *testing.T) {
+	s, err := Open(api.NewDisk(1<<30), api.Options{Memory: 1, Tables: 2})
+	if err != nil {
+		t.Fatal(err)
+	}
+	end := make(chan struct{})
+	var w sync.WaitGroup
+	for range 4 {
+		w.Add(1)
+		go func() {
+			defer w.Done()
+			for !ended(end) {
+				if err := oneMoment(s); err != nil {
+					t.Error(err)
+					return
+				}
+			}
+		}()
+	}
+	for i := range 3000 {
+		if err := s.Write([]api.Change{{Key: fmt.Sprint(i % 3)}}, false); err != nil {
+			t.Error(err)
+		}
+		if i%4 == 0 {
+			if err := s.Compact(); err != nil {
+				t.Error(err)
+			}
+		}
+	}
+	close(end)
+	w.Wait()
+}
+
+// ended tells whether a channel is closed.
+func ended(end chan struct{}) bool {
+	select {
+	case <-end:
+		return true
+	default:
+		return false
+	}
+}
+
+// oneMoment tells what is wrong with the order in which the tables were made that Shape tells.
+func oneMoment(s *Store) error {
+	l, err := s.Shape()
+	if err != nil {
+		return err
+	}
+	newest := uint64(0)
+	for _, x := range slices.Concat(l[1:]...) {
+		n, _ := files.Number(x.Name)
+		newest = max(newest, n)
+	}
+	for _, x := range l[0] {
+		if n, _ := files.Number(x.Name); n <= newest {
+			return fmt.Errorf("level 0 has %s, and the levels below have a newer table: %v", x.Name, l)
+		}
+	}
+	return nil
 }
