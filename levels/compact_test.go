@@ -240,7 +240,7 @@ func readyToCompact(t *testing.T, d *api.Disk, seed int64) (*levels.Store, *past
 	t.Helper()
 	r := rand.New(rand.NewSource(seed))
 	s := open(t, d, api.Options{Memory: 9, Tables: 2 + int(seed)})
-	p := &past{all: []contents{{}}, snaps: seed%2 == 1}
+	p := newPast(seed%2 == 1)
 	if err := p.write(r, s, 60); err != nil {
 		t.Fatal(err)
 	}

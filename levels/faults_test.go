@@ -12,155 +12,13 @@ import (
 	"levels/levels"
 )
 
-// past is what was done to a disk: the contents behind each batch, how many of them are safe, and whether the last one's Write answered an error; and whether snapshots are held meanwhile.
-type past struct {
-	all   []contents
-	safe  int
-	maybe bool
-	snaps bool
-}
-
-// done is how many batches' Writes answered nil.
-func (p *past) done() int {
-	if p.maybe {
-		return len(p.all) - 2
-	}
-	return len(p.all) - 1
-}
-
-// write writes batches, and compacts from time to time, till the disk refuses something, and answers that error.
-func (p *past) write(r *rand.Rand, s *levels.Store, n int) error {
-	for i := range n {
-		if r.Intn(12) == 0 {
-			if err := s.Compact(); err != nil {
-				return err
-			}
-			p.safe = len(p.all) - 1
-		}
-		if p.snaps && i%3 == 0 {
-			s.Snapshot()
-			s.Release(1 + r.Intn(20))
-		}
-		l, sync := anyBatch(r, 60), r.Intn(4) == 0
-		err := s.Write(l, sync)
-		p.all = append(p.all, p.all[len(p.all)-1].with(l))
-		if err != nil {
-			p.maybe = true
-			return err
-		}
-		if sync {
-			p.safe = len(p.all) - 1
-		}
-	}
-	return nil
-}
-
-// check tests that a store has the contents of some first batches, at least of so many, and goes on from there.
-func (p *past) check(t *testing.T, s *levels.Store, least int) {
-	t.Helper()
-	l, err := s.Scan("", "", 0)
-	n := prefix(p.all, l)
-	if err != nil || n < least {
-		t.Fatalf("the store has the first %d batches (%v) of %d, of which %d are safe: %v, %v", n, err, len(p.all)-1, p.safe, l, p.all[least])
-	}
-	p.all, p.safe, p.maybe = p.all[:n+1], min(p.safe, n), false
-}
-
-// TestSync: P4: a batch that was written with sync is there behind a crash, and all ahead of it.
-func TestSync(t *testing.T) {
-	for _, memory := range []int{1, 3, 32} {
-		for dir := range uint(5) {
-			for tail := range uint(40) {
-				d := api.NewDisk(roomy)
-				s := open(t, d, api.Options{Memory: memory, Tables: 2})
-				write(t, s, "a=1", "b=2")
-				if err := s.Write(batch("-a"), true); err != nil {
-					t.Fatal(err)
-				}
-				write(t, s, "c=3")
-				if err := s.Write(nil, true); err != nil {
-					t.Fatal(err)
-				}
-				write(t, s, "b=4,d=5")
-				d.Crash(dir, tail)
-				l, err := open(t, d, usual).Scan("", "", 0)
-				if got := tell(l); err != nil || got != "b=2,c=3" && got != "b=4,c=3,d=5" {
-					t.Errorf("Memory %d, Crash(%d, %d): %q, %v", memory, dir, tail, got, err)
-				}
-			}
-		}
-	}
-}
-
-// TestLeft: P4, P7, P11: what an earlier store left without Close is made safe as well.
-func TestLeft(t *testing.T) {
-	for _, safe := range []func(s *levels.Store) error{
-		func(s *levels.Store) error { return s.Close() },
-		func(s *levels.Store) error { return s.Compact() },
-		func(s *levels.Store) error { return s.Write(nil, true) },
-		func(s *levels.Store) error { return s.Write(batch("b=2"), true) },
-	} {
-		for _, memory := range []int{2, 32} {
-			d := api.NewDisk(roomy)
-			o := api.Options{Memory: memory, Tables: 2}
-			write(t, open(t, d, o), "a=1", "b=2", "c=3")
-			if err := safe(open(t, d, o)); err != nil {
-				t.Fatal(err)
-			}
-			d.Crash(0, 0)
-			has(t, open(t, d, o), "a=1,b=2,c=3")
-		}
-	}
-}
-
-// TestCrash: a crash within some call, time after time: what was safe is there, and no batch by half.
-func TestCrash(t *testing.T) {
-	for seed := range int64(400) {
-		r := rand.New(rand.NewSource(seed))
-		d := api.NewDisk(roomy)
-		p := &past{all: []contents{{}}, snaps: seed%2 == 1}
-		for range 6 {
-			d.Fail(r.Intn(120), math.MaxInt)
-			s, err := levels.Open(d, anyOptions(r))
-			if err == nil {
-				if err = p.write(r, s, r.Intn(60)); err == nil && r.Intn(2) == 0 && s.Close() == nil {
-					p.safe = len(p.all) - 1
-				}
-			}
-			if err != nil && !errors.Is(err, api.ErrDisk) {
-				t.Fatal(err)
-			}
-			d.Crash(uint(r.Intn(20)), uint(r.Intn(200)))
-			p.check(t, open(t, d, anyOptions(r)), p.safe)
-		}
-	}
-}
-
-// TestEveryCrash: a crash at each operation of one story, with each outcome for the names.
-func TestEveryCrash(t *testing.T) {
-	for after := range 150 {
-		for dir := range uint(6) {
-			for _, tail := range []uint{0, 1, 13, 30} {
-				r := rand.New(rand.NewSource(7))
-				d := api.NewDisk(roomy)
-				p := &past{all: []contents{{}}, snaps: after%2 == int(dir%2)}
-				s := open(t, d, api.Options{Memory: 6, Tables: 2})
-				d.Fail(after, math.MaxInt)
-				p.write(r, s, 40)
-				d.Crash(dir, tail)
-				p.check(t, open(t, d, usual), p.safe)
-			}
-		}
-	}
-}
-
 // TestFails: an operation fails, and no crash comes: the store answers the error from then on, and the next one has all that was done.
 func TestFails(t *testing.T) {
 	for after := range 150 {
 		for _, times := range []int{1, 2, math.MaxInt} {
 			r := rand.New(rand.NewSource(int64(after)))
 			d := api.NewDisk(roomy)
-			p := &past{all: []contents{{}}, snaps: r.Intn(2) == 0}
+			p := newPast(r.Intn(2) == 0)
 			s := open(t, d, anyOptions(r))
 			d.Fail(after, times)
 			if err := p.write(r, s, 60); err == nil {
@@ -185,7 +43,7 @@ func TestRoom(t *testing.T) {
 	for room := 0; room < 2500; room += 3 {
 		r := rand.New(rand.NewSource(int64(room % 7)))
 		d := api.NewDisk(room)
-		p := &past{all: []contents{{}}, snaps: room%2 == 0}
+		p := newPast(room%2 == 0)
 		o := anyOptions(r)
 		s := open(t, d, o)
 		if err := p.write(r, s, 1000); !errors.Is(err, api.ErrRoom) {
@@ -221,7 +79,7 @@ func TestOpenFails(t *testing.T) {
 	for seed := range int64(20) {
 		r := rand.New(rand.NewSource(seed))
 		d := api.NewDisk(roomy)
-		p := &past{all: []contents{{}}, snaps: seed%2 == 1}
+		p := newPast(seed%2 == 1)
 		s := open(t, d, api.Options{Memory: 32, Tables: 6})
 		d.Fail(r.Intn(200), math.MaxInt)
 		p.write(r, s, 60)
@@ -271,7 +129,7 @@ func TestFlipped(t *testing.T) {
 	for i, crash := range []bool{false, true, false} {
 		r := rand.New(rand.NewSource(3))
 		d := api.NewDisk(roomy)
-		p := &past{all: []contents{{}}, snaps: i == 2}
+		p := newPast(i == 2)
 		s := open(t, d, api.Options{Memory: 12, Tables: 2})
 		p.write(r, s, 22)
 		if crash {
@@ -359,7 +217,7 @@ func TestAnyBytes(t *testing.T) {
 	for range 3000 {
 		d := api.NewDisk(r.Intn(5000))
 		s := open(t, d, anyOptions(r))
-		(&past{all: []contents{{}}, snaps: r.Intn(2) == 0}).write(r, s, r.Intn(60))
+		newPast(r.Intn(2) == 0).write(r, s, r.Intn(60))
 		spoil(r, d)
 		s, err := levels.Open(d, anyOptions(r))
 		if (s == nil) != (err != nil) {

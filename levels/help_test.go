@@ -99,10 +99,20 @@ func (c contents) scan(lo, hi string, limit int) []api.Pair {
 	return l
 }
 
+// are tells whether these pairs are all that there is, by their keys.
+func (c contents) are(l []api.Pair) bool {
+	for i, p := range l {
+		if v, ok := c[p.Key]; !ok || v != p.Value || i > 0 && l[i-1].Key >= p.Key {
+			return false
+		}
+	}
+	return len(l) == len(c)
+}
+
 // prefix tells the number of batches after which the contents were these; -1, if they never were. Of several it is the last.
 func prefix(l []contents, got []api.Pair) int {
 	for i, c := range slices.Backward(l) {
-		if slices.Equal(c.scan("", "", 0), got) {
+		if c.are(got) {
 			return i
 		}
 	}
