@@ -264,10 +264,13 @@ func TestCompactFails(t *testing.T) {
 				s, p := readyToCompact(t, d, seed)
 				d.Fail(after, times)
 				err := s.Compact()
-				d.Fail(0, 0)
 				if err == nil {
+					if times == 1 && !failsYet(d, after) {
+						t.Errorf("behind %d operations the disk failed, and Compact did not answer that", after)
+					}
 					break
 				}
+				d.Fail(0, 0)
 				failed++
 				if !errors.Is(err, api.ErrDisk) {
 					t.Fatalf("Compact: %v", err)

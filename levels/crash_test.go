@@ -168,7 +168,7 @@ func TestStories(t *testing.T) {
 	failed := map[string]int{}
 	for _, told := range stories {
 		calls := strings.Split(told.calls, "; ")
-		for after := 0; ; after++ {
+		for after := range 300 {
 			call := newStory(after, math.MaxInt).goOn(t, calls)
 			if call == "" {
 				break
@@ -300,7 +300,10 @@ func TestCrashTogether(t *testing.T) {
 			w.Add(1)
 			go func() {
 				defer w.Done()
-				for i := 1; s.Write(batch(fmt.Sprintf("a%d=%d,b%d=%d", g, i, g, i)), i%5 == g) == nil; i++ {
+				for i := 1; i < 300; i++ {
+					if s.Write(batch(fmt.Sprintf("a%d=%d,b%d=%d", g, i, g, i)), i%5 == g) != nil {
+						return
+					}
 					done[g] = i
 					if i%5 == g {
 						safe[g] = i

@@ -12,6 +12,16 @@ import (
 	"levels/levels"
 )
 
+// failsYet tells whether one of the next operations of a disk fails: at most so many are done ahead of that.
+func failsYet(d *api.Disk, after int) bool {
+	for range after + 1 {
+		if _, err := d.Size(""); errors.Is(err, api.ErrDisk) {
+			return true
+		}
+	}
+	return false
+}
+
 // TestFails: an operation fails, and no crash comes: the store answers the error from then on, and the next one has all that was done.
 func TestFails(t *testing.T) {
 	for after := range 150 {
@@ -22,6 +32,9 @@ func TestFails(t *testing.T) {
 			s := open(t, d, anyOptions(r))
 			d.Fail(after, times)
 			if err := p.write(r, s, 60); err == nil {
+				if times == 1 && !failsYet(d, after) {
+					t.Errorf("behind %d operations the disk failed, and no call answered that", after)
+				}
 				continue
 			}
 			d.Fail(0, 0)
