@@ -30,9 +30,10 @@ var stories = []struct{ name, calls string }{
 
 // story is what happens over a disk, call by call.
 type story struct {
-	d *api.Disk
-	s *levels.Store
-	p *past
+	d   *api.Disk
+	s   *levels.Store
+	p   *past
+	err error // of the last call
 }
 
 // newStory begins over a disk without files: of its operations, behind so many, so many fail.
@@ -68,19 +69,19 @@ func (x *story) call(told string) error {
 	return x.p.do(x.s, batch(told), false)
 }
 
-// goOn makes calls till the disk fails in one, and tells which; the empty text, if it does in none.
-func (x *story) goOn(t *testing.T, calls []string) string {
+// goOn makes calls till the disk fails in one, and tells how many are ahead of that one.
+func (x *story) goOn(t *testing.T, calls []string) int {
 	t.Helper()
-	for _, told := range calls {
-		err := x.call(told)
-		if errors.Is(err, api.ErrDisk) {
-			return told
+	for i, told := range calls {
+		x.err = x.call(told)
+		if errors.Is(x.err, api.ErrDisk) {
+			return i
 		}
-		if err != nil {
-			t.Fatalf("%s: %v", told, err)
+		if x.err != nil {
+			t.Fatalf("%s: %v", told, x.err)
 		}
 	}
-	return ""
+	return len(calls)
 }
 
 // crashes goes through choices of what a disk keeps of names and bytes.
@@ -169,11 +170,11 @@ func TestStories(t *testing.T) {
 	for _, told := range stories {
 		calls := strings.Split(told.calls, "; ")
 		for after := range 300 {
-			call := newStory(after, math.MaxInt).goOn(t, calls)
-			if call == "" {
+			n := newStory(after, math.MaxInt).goOn(t, calls)
+			if n == len(calls) {
 				break
 			}
-			name, _, _ := strings.Cut(call, " ")
+			name, _, _ := strings.Cut(calls[n], " ")
 			if strings.ContainsAny(name, "=-") {
 				name = "a batch"
 			}
@@ -197,7 +198,7 @@ func TestCrashWithin(t *testing.T) {
 				i := after
 				for dir, tail := range crashes {
 					x := newStory(after, math.MaxInt)
-					ended = x.goOn(t, calls) == ""
+					ended = x.goOn(t, calls) == len(calls)
 					x.d.Crash(dir, tail)
 					x.p.what = fmt.Sprintf("failing behind %d operations, Crash(%d, %d)", after, dir, tail)
 					x.p.comesThrough(t, x.d, i)
@@ -239,7 +240,7 @@ func TestCrashUponCrash(t *testing.T) {
 			for after, ended := 0, false; !ended; after++ {
 				for first := range uint(4) {
 					x := newStory(after, math.MaxInt)
-					ended = x.goOn(t, calls) == ""
+					ended = x.goOn(t, calls) == len(calls)
 					x.d.Crash(3*first, 11*first)
 					for within, opened := 0, false; !opened; within++ {
 						p, d := x.p.copy(), x.d.Copy() // a crash leaves nothing that is not safe: so nothing is lost by Copy
@@ -269,7 +270,7 @@ func TestCrashBehindFault(t *testing.T) {
 			for after, ended := 0, false; !ended; after++ {
 				for i, call := range []string{"sync", "sync y=8,z=9", "compact", "close"} {
 					x := newStory(after, 1+i%2)
-					ended = x.goOn(t, calls) == ""
+					ended = x.goOn(t, calls) == len(calls)
 					x.d.Fail(0, 0)
 					o, _ := others(after + i)
 					x.s = open(t, x.d, o)
@@ -385,11 +386,12 @@ func TestCrashDeep(t *testing.T) {
 	for _, calls := range []string{"open 1 2; 500=1,501=2; 777=3,-500", "open 32 2; 100=1,900=1; compact", "open 9 2; 100=1,-900; sync; 101=2; open 1 2"} {
 		t.Run(calls, func(t *testing.T) {
 			t.Parallel()
+			calls := strings.Split(calls, "; ")
 			for after, ended := 0, false; !ended; after++ {
 				for dir := range uint(18) {
 					x := &story{d: base.Copy(), p: done.copy()}
 					x.d.Fail(after, math.MaxInt)
-					ended = x.goOn(t, strings.Split(calls, "; ")) == ""
+					ended = x.goOn(t, calls) == len(calls)
 					x.d.Crash(dir, 17*dir)
 					x.p.what = fmt.Sprintf("failing behind %d operations, Crash(%d, %d)", after, dir, 17*dir)
 					o, _ := others(after)

@@ -165,4 +165,36 @@ func everyCallAnswers(t *testing.T, s *levels.Store, want error) {
 	for k, v := range s.All("", "") {
 		t.Errorf("All goes through %q, %q", k, v)
 	}
+	noResults(t, s)
+}
+
+// noResults tests a store of which each call answers an error: every other result is zero.
+func noResults(t *testing.T, s *levels.Store) {
+	t.Helper()
+	for _, x := range []reader{{s.Get, s.Scan}, at(s, 1)} {
+		v, ok, err := x.get("a")
+		l, scanErr := x.scan("", "", 0)
+		if v != "" || ok || err == nil || l != nil || scanErr == nil {
+			t.Errorf("beside an error: %q, %v, %v; %v, %v", v, ok, err, l, scanErr)
+		}
+	}
+	n, err := s.Snapshot()
+	l, shapeErr := s.Shape()
+	if n != 0 || err == nil || l != nil || shapeErr == nil {
+		t.Errorf("beside an error: %d, %v; %v, %v", n, err, l, shapeErr)
+	}
+}
+
+// stuck tests a store that failed with that error: each call but Close answers the same; Close does once, and closes.
+func stuck(t *testing.T, s *levels.Store, err error) {
+	t.Helper()
+	want := api.Tell(err)
+	everyCallAnswers(t, s, want)
+	if err := s.Close(); !errors.Is(err, want) {
+		t.Errorf("Close: %v, want %v", err, want)
+	}
+	if err := s.Close(); !errors.Is(err, api.ErrClosed) {
+		t.Errorf("Close again: %v", err)
+	}
+	everyCallAnswers(t, s, api.ErrClosed)
 }

@@ -287,21 +287,11 @@ func TestZero(t *testing.T) {
 	s := open(t, api.NewDisk(roomy), usual)
 	write(t, s, "a=1,b=2")
 	take(t, s, 1)
+	if v, ok, err := s.Get("123456789"); v != "" || ok || !errors.Is(err, api.ErrKey) {
+		t.Errorf("Get of no key: %q, %v, %v", v, ok, err)
+	}
 	s.Close()
-	v, ok, err := s.Get("a")
-	l, scanErr := s.Scan("", "", 0)
-	if v != "" || ok || err == nil || l != nil || scanErr == nil {
-		t.Errorf("on a closed store: %q, %v, %v; %v, %v", v, ok, err, l, scanErr)
-	}
-	v, ok, err = s.GetAt(1, "a")
-	l, scanErr = s.ScanAt(1, "", "", 0)
-	n, snapErr := s.Snapshot()
-	if v != "" || ok || err == nil || l != nil || scanErr == nil || n != 0 || snapErr == nil {
-		t.Errorf("on a closed store, at a snapshot: %q, %v, %v; %v, %v; %d, %v", v, ok, err, l, scanErr, n, snapErr)
-	}
-	if l, err := s.Shape(); l != nil || !errors.Is(err, api.ErrClosed) {
-		t.Errorf("Shape of a closed store: %v, %v", l, err)
-	}
+	noResults(t, s)
 }
 
 // TestKept: P2: what is handed in stays as it is and may be changed later; what comes out is nobody else's.

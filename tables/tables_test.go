@@ -399,6 +399,9 @@ func TestOther(t *testing.T) {
 			t.Errorf("index %d: %v", i, err)
 		}
 	}
+	if _, err := open(t, nil, putIndex(nil)); !errors.Is(err, api.ErrCorrupt) {
+		t.Errorf("a table without blocks: %v", err)
+	}
 	for i, change := range []func(k *block){
 		func(k *block) { k.count++ },
 		func(k *block) { k.count-- },
